@@ -51,7 +51,7 @@ func (p both) farther() bool {
 	var w work
 	left := w.mul(p.a.Num, p.b.Den)
 	right := w.mul(p.b.Num, p.a.Den)
-	if w.e == api.OK {
+	if w.Err == api.OK {
 		return w.cmp(left, right) > 0
 	}
 	return fartherWide(p.a, p.b)
@@ -98,9 +98,6 @@ func (w *work) wideProduct(x, y api.Nat) wide {
 
 // cutPiece is the lowest piece of x, and what stands above it.
 func (w *work) cutPiece(x api.Nat) (piece, above api.Nat) {
-	above, e := nat.Down(x, pieceBits)
-	w.keep(e)
-	high, e := nat.Up(above, pieceBits)
-	w.keep(e)
-	return w.sub(x, high), above
+	above = w.Nat(nat.Down(x, pieceBits))
+	return w.sub(x, w.Nat(nat.Up(above, pieceBits))), above
 }

@@ -3,63 +3,34 @@ package ratio
 import (
 	"numeral/api"
 	"numeral/nat"
+	"numeral/steps"
 )
 
-// work does nat's calls one behind another and keeps the first error, so that it is asked for once, at the end. What comes behind an error means nothing.
-type work struct{ e api.Errno }
+// work does nat's calls one behind another; its error is asked for once, at the end.
+type work struct{ steps.Run }
 
-func (w *work) keep(e api.Errno) {
-	if w.e == api.OK {
-		w.e = e
-	}
-}
-
-func (w *work) add(x, y api.Nat) api.Nat {
-	sum, e := nat.Add(x, y)
-	w.keep(e)
-	return sum
-}
+func (w *work) add(x, y api.Nat) api.Nat { return w.Nat(nat.Add(x, y)) }
 
 // sub wants a y that is not the greater one.
-func (w *work) sub(x, y api.Nat) api.Nat {
-	rest, _, e := nat.Sub(x, y)
-	w.keep(e)
-	return rest
-}
+func (w *work) sub(x, y api.Nat) api.Nat { return w.Less(nat.Sub(x, y)) }
 
-func (w *work) mul(x, y api.Nat) api.Nat {
-	product, e := nat.Mul(x, y)
-	w.keep(e)
-	return product
-}
+func (w *work) mul(x, y api.Nat) api.Nat { return w.Nat(nat.Mul(x, y)) }
 
-func (w *work) div(x, y api.Nat) (quotient, rest api.Nat) {
-	quotient, rest, e := nat.Div(x, y)
-	w.keep(e)
-	return quotient, rest
-}
+func (w *work) div(x, y api.Nat) (quotient, rest api.Nat) { return w.Nats(nat.Div(x, y)) }
 
 func (w *work) over(x, y api.Nat) api.Nat {
 	quotient, _ := w.div(x, y)
 	return quotient
 }
 
-func (w *work) gcd(x, y api.Nat) api.Nat {
-	common, e := nat.Gcd(x, y)
-	w.keep(e)
-	return common
-}
+func (w *work) gcd(x, y api.Nat) api.Nat { return w.Nat(nat.Gcd(x, y)) }
 
-func (w *work) cmp(x, y api.Nat) int {
-	n, e := nat.Cmp(x, y)
-	w.keep(e)
-	return n
-}
+func (w *work) cmp(x, y api.Nat) int { return w.Int(nat.Cmp(x, y)) }
 
 // fraction is the answer of a work that came out in lowest terms.
 func (w *work) fraction(neg bool, num, den api.Nat) (api.Ratio, api.Errno) {
-	if w.e != api.OK {
-		return api.Ratio{}, w.e
+	if w.Err != api.OK {
+		return api.Ratio{}, w.Err
 	}
 	return api.Ratio{Neg: neg && !isNought(num), Num: num, Den: den}, api.OK
 }

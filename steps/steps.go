@@ -1,0 +1,40 @@
+// Package steps takes the answers of calls that come one behind another and keeps the first error of them, so that it is asked for once, at the end. It is no layer: all layers may use it.
+package steps
+
+import "numeral/api"
+
+// Run is some calls, one behind another. What comes behind an error means nothing.
+type Run struct {
+	Err api.Errno // the first error that came
+}
+
+// Keep keeps an error, unless one came ahead of it.
+func (r *Run) Keep(e api.Errno) {
+	if r.Err == api.OK {
+		r.Err = e
+	}
+}
+
+// Nat takes a whole number.
+func (r *Run) Nat(n api.Nat, e api.Errno) api.Nat {
+	r.Keep(e)
+	return n
+}
+
+// Nats takes two whole numbers.
+func (r *Run) Nats(a, b api.Nat, e api.Errno) (api.Nat, api.Nat) {
+	r.Keep(e)
+	return a, b
+}
+
+// Less takes a difference, where it is known that there is one.
+func (r *Run) Less(n api.Nat, _ bool, e api.Errno) api.Nat {
+	r.Keep(e)
+	return n
+}
+
+// Int takes a count or an order.
+func (r *Run) Int(n int, e api.Errno) int {
+	r.Keep(e)
+	return n
+}

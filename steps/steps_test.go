@@ -1,0 +1,39 @@
+package steps
+
+import (
+	"testing"
+
+	"numeral/api"
+	"numeral/nat"
+)
+
+func TestTheFirstErrorIsKept(t *testing.T) {
+	var r Run
+	one, two := r.Nats(nat.Of(1), nat.Of(2), api.OK)
+	sum := r.Nat(nat.Add(one, two))
+	rest := r.Less(nat.Sub(sum, one))
+	if order := r.Int(nat.Cmp(rest, two)); order != 0 || r.Err != api.OK {
+		t.Error("1 + 2 - 1:", order, int(r.Err))
+	}
+	r.Keep(api.ErrZero)
+	r.Keep(api.OK)
+	r.Keep(api.ErrMany)
+	if r.Err != api.ErrZero {
+		t.Error("of the errors ErrZero, OK, ErrMany is kept", int(r.Err))
+	}
+}
+
+func TestEveryKindOfAnswerKeepsItsError(t *testing.T) {
+	for what, take := range map[string]func(r *Run){
+		"Keep": func(r *Run) { r.Keep(api.ErrNat) },
+		"Nat":  func(r *Run) { r.Nat(api.Nat{}, api.ErrNat) },
+		"Nats": func(r *Run) { r.Nats(api.Nat{}, api.Nat{}, api.ErrNat) },
+		"Less": func(r *Run) { r.Less(api.Nat{}, false, api.ErrNat) },
+		"Int":  func(r *Run) { r.Int(0, api.ErrNat) },
+	} {
+		var r Run
+		if take(&r); r.Err != api.ErrNat {
+			t.Errorf("%s kept %d", what, int(r.Err))
+		}
+	}
+}
