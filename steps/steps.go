@@ -38,3 +38,15 @@ func (r *Run) Int(n int, e api.Errno) int {
 	r.Keep(e)
 	return n
 }
+
+// Ratio takes a fraction.
+func (r *Run) Ratio(x api.Ratio, e api.Errno) api.Ratio {
+	r.Keep(e)
+	return x
+}
+
+// Dyadic takes a whole number times a power of two.
+func (r *Run) Dyadic(d api.Dyadic, e api.Errno) api.Dyadic {
+	r.Keep(e)
+	return d
+}
