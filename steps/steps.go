@@ -50,3 +50,9 @@ func (r *Run) Dyadic(d api.Dyadic, e api.Errno) api.Dyadic {
 	r.Keep(e)
 	return d
 }
+
+// Dec takes a decimal.
+func (r *Run) Dec(d api.Dec, e api.Errno) api.Dec {
+	r.Keep(e)
+	return d
+}
